@@ -1,0 +1,1 @@
+"""Arrays of numbers, from here to there."""

@@ -1,0 +1,63 @@
+"""Calls as they stand in the list that is handed in, and answers taken apart again."""
+
+from arrayreach.reach import answers
+
+HIGHEST = 4294967295
+LOWEST_C = -2147483648
+HIGHEST_C = 2147483647
+
+
+def start(a):
+    return [0, a]
+
+
+def unknown():
+    return [1]
+
+
+def read(a, i):
+    return [2, a, i]
+
+
+def bound(t, u, c):
+    return [3, t, u, c]
+
+
+def least(a, i, j, v):
+    return [4, a, i, j, v]
+
+
+def most(a, i, j, v):
+    return [5, a, i, j, v]
+
+
+def rising(a, i, j):
+    return [6, a, i, j]
+
+
+def alike(a, b, i, j):
+    return [7, a, b, i, j]
+
+
+def line(*calls):
+    return [number for call in calls for number in call]
+
+
+def asked(*calls):
+    """What each of the calls answers, as a list of lists."""
+    told = answers(line(*calls))
+    each = []
+    at = 0
+    while at < len(told):
+        behind = at + 1 + told[at]
+        each.append(told[at + 1:behind])
+        at = behind
+    return each
+
+
+def last(*calls):
+    """The one number that the last of the calls answers."""
+    each = asked(*calls)
+    if len(each) != len(calls) or len(each[-1]) != 1:
+        raise AssertionError(f"not one number for the last of {len(calls)} calls: {each}")
+    return each[-1][0]
