@@ -39,25 +39,71 @@ def alike(a, b, i, j):
     return [7, a, b, i, j]
 
 
+def drop(k):
+    return [8, k]
+
+
+def mark():
+    return [9]
+
+
+def back():
+    return [10]
+
+
+def decide():
+    return [11]
+
+
+def surely(t, u, c):
+    return [12, t, u, c]
+
+
+def span(t):
+    """The call range."""
+    return [13, t]
+
+
+def orders():
+    return [14]
+
+
+def shows():
+    return [15]
+
+
+def equal(t, u, c=0):
+    """Two claims: t is c more than u, neither more nor less."""
+    return bound(t, u, c), bound(u, t, -c)
+
+
 def line(*calls):
     return [number for call in calls for number in call]
 
 
 def asked(*calls):
     """What each of the calls answers, as a list of lists."""
-    told = answers(line(*calls))
+    given_back = answers(line(*calls))
     each = []
     at = 0
-    while at < len(told):
-        behind = at + 1 + told[at]
-        each.append(told[at + 1:behind])
+    while at < len(given_back):
+        behind = at + 1 + given_back[at]
+        each.append(given_back[at + 1:behind])
         at = behind
     return each
 
 
+def told(*calls):
+    """All that the last of the calls answers."""
+    each = asked(*calls)
+    if len(each) != len(calls):
+        raise AssertionError(f"{len(each)} answers to {len(calls)} calls: {each}")
+    return each[-1]
+
+
 def last(*calls):
     """The one number that the last of the calls answers."""
-    each = asked(*calls)
-    if len(each) != len(calls) or len(each[-1]) != 1:
-        raise AssertionError(f"not one number for the last of {len(calls)} calls: {each}")
-    return each[-1][0]
+    answer = told(*calls)
+    if len(answer) != 1:
+        raise AssertionError(f"not one number for the last of {len(calls)} calls: {answer}")
+    return answer[0]

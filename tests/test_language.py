@@ -39,6 +39,16 @@ def nodes(kinds):
             if isinstance(node, kinds)]
 
 
+def calls_of(names):
+    """Each call of a function of Python's own that is one of these, with its file."""
+    return [(name, node) for name, node in nodes(ast.Call)
+            if isinstance(node.func, ast.Name) and node.func.id in names]
+
+
+def place(name, node):
+    return name, node.lineno, node.col_offset
+
+
 class Files(unittest.TestCase):
     def test_names(self):
         self.assertIn("__init__.py", [path.name for path in files()])
@@ -64,6 +74,53 @@ class Files(unittest.TestCase):
             self.assertIsNone(re.search("dataclass|overload|contextmanager", text), path)
 
 
+class TopOfAFile(unittest.TestCase):
+    def test_what_stands_there(self):
+        for path in files():
+            bound = []
+            for node in ast.parse(path.read_text("utf-8")).body:
+                if isinstance(node, (ast.FunctionDef, ast.ClassDef)):
+                    bound.append(node.name)
+                elif isinstance(node, ast.ImportFrom):
+                    bound += [alias.name for alias in node.names]
+                elif isinstance(node, ast.Assign):
+                    bound.append(node.targets[0].id)
+                    ast.literal_eval(node.value)
+                else:
+                    self.assertIsInstance(node, ast.Expr, (path.name, node.lineno))
+                    self.assertIsInstance(node.value.value, str, (path.name, node.lineno))
+            self.assertEqual(sorted(bound), sorted(set(bound)), path)
+
+    def test_imports_are_from_the_file_that_defines_the_name(self):
+        for name, node in nodes(ast.ImportFrom):
+            source = PACKAGE / (node.module.removeprefix("arrayreach.") + ".py")
+            defined = [each.name for each in ast.parse(source.read_text("utf-8")).body
+                       if isinstance(each, (ast.FunctionDef, ast.ClassDef))]
+            for alias in node.names:
+                self.assertIn(alias.name, defined, (name, node.module))
+                self.assertIsNone(alias.asname)
+
+    def test_no_two_files_draw_from_one_another(self):
+        drawn = {path.name: set() for path in files()}
+        for name, node in nodes(ast.ImportFrom):
+            drawn[name].add(node.module.removeprefix("arrayreach.") + ".py")
+        while drawn:
+            free = [name for name in drawn if not drawn[name] & set(drawn)]
+            self.assertTrue(free, drawn)
+            drawn = {name: drawn[name] for name in drawn if name not in free}
+
+    def test_no_local_is_called_like_an_import_or_a_class(self):
+        for path in files():
+            tree = ast.parse(path.read_text("utf-8"))
+            taken = {alias.name for node in tree.body if isinstance(node, ast.ImportFrom) for alias in node.names}
+            taken |= {node.name for node in tree.body if isinstance(node, ast.ClassDef)}
+            for node in ast.walk(tree):
+                if isinstance(node, ast.arg):
+                    self.assertNotIn(node.arg, taken, (path.name, node.lineno))
+                if isinstance(node, ast.Name) and isinstance(node.ctx, ast.Store):
+                    self.assertNotIn(node.id, taken, (path.name, node.lineno))
+
+
 class Syntax(unittest.TestCase):
     def test_plain_nodes_alone(self):
         for name, node in nodes(ast.AST):
@@ -84,6 +141,31 @@ class Syntax(unittest.TestCase):
         for name, node in nodes((ast.While, ast.For)):
             self.assertEqual(node.orelse, [], (name, node.lineno))
         self.assertEqual(nodes((ast.Div, ast.MatMult)), [])
+
+    def test_is_stands_beside_none_true_and_false_alone(self):
+        for name, node in nodes(ast.Compare):
+            if any(isinstance(sign, (ast.Is, ast.IsNot)) for sign in node.ops):
+                self.assertIsInstance(node.comparators[0], ast.Constant, (name, node.lineno))
+                self.assertIn(node.comparators[0].value, (None, True, False), (name, node.lineno))
+
+    def test_comprehensions_have_one_for_and_at_most_one_if(self):
+        for name, node in nodes(ast.ListComp):
+            self.assertEqual(len(node.generators), 1, (name, node.lineno))
+            self.assertLessEqual(len(node.generators[0].ifs), 1, (name, node.lineno))
+
+    def test_what_is_walked_on_the_spot(self):
+        walked = ("zip", "enumerate", "reversed", "range")
+        may_stand = ("list", "tuple", "dict", "sorted", "sum", "any", "all", "enumerate", "zip")
+        allowed = [place(name, node.iter) for name, node in nodes((ast.For, ast.comprehension))]
+        allowed += [place(name, node.args[0]) for name, node in calls_of(may_stand)]
+        for name, node in calls_of(walked):
+            self.assertIn(place(name, node), allowed)
+
+    def test_sets_are_made_within_sorted_or_len(self):
+        within = [place(name, node.args[0]) for name, node in calls_of(("sorted", "len"))]
+        for name, node in calls_of(("set", "frozenset")):
+            self.assertIn(place(name, node), within)
+        self.assertEqual(nodes(ast.Set), [])
 
     def test_constants_are_whole_numbers_and_texts(self):
         for name, node in nodes(ast.Constant):
